@@ -1,0 +1,181 @@
+"""Tests of the interface's names and of the rules for the package's files
+that a look at the code can decide."""
+
+import ast
+import pathlib
+import re
+import unittest
+
+PACKAGE = pathlib.Path(__file__).resolve().parent.parent / "turnshelves"
+
+# For each file: its functions with their parameters, and its classes with
+# their base class and methods.
+FUNCTIONS = {
+    "values": {"value_key": "value", "row_key": "row", "key_of": "item", "key_order": "key"},
+    "states": {"between": "first, second"},
+}
+CLASSES = {
+    "errors": {
+        "ShelfError": ("ValueError", {}),
+        "Refused": ("ShelfError", {"__init__": "self, problem"}),
+        "InvalidArgument": ("ShelfError", {}),
+        "TransactionOpen": ("ShelfError", {}),
+        "NoTransaction": ("ShelfError", {}),
+        "NoSavepoint": ("ShelfError", {}),
+        "DiskFull": ("ShelfError", {}),
+        "PowerOff": ("ShelfError", {}),
+        "DatabaseOpen": ("ShelfError", {}),
+        "DatabaseClosed": ("ShelfError", {}),
+        "DamagedData": ("ShelfError", {}),
+    },
+    "states": {
+        "State": (None, {
+            "__init__": "self, items=()",
+            "all_items": "self",
+            "has": "self, relation, row",
+            "copy": "self",
+            "change": "self, changes",
+            "same_schema": "self, other",
+        }),
+    },
+}
+
+LIBRARY = {
+    "heapq": {"heappush", "heappop", "heapify", "heapreplace", "heappushpop"},
+    "math": {"gcd", "lcm", "isqrt", "comb", "perm", "factorial"},
+    "itertools": {"product", "combinations", "permutations", "chain", "accumulate", "pairwise", "islice",
+                  "zip_longest"},
+    "collections": {"defaultdict"},
+}
+MODULE_LEVEL = (ast.ImportFrom, ast.FunctionDef, ast.ClassDef, ast.Assign)
+BARRED = (ast.Global, ast.AsyncFunctionDef, ast.Await, ast.Import, ast.Div, ast.MatMult)
+CALLS = {
+    "len", "range", "enumerate", "zip", "min", "max", "sum", "abs", "sorted", "reversed", "int", "str", "bool",
+    "list", "tuple", "dict", "set", "isinstance", "ord", "repr", "any", "all", "divmod", "pow", "map", "iter",
+    "next", "super",
+}
+
+
+def files():
+    return sorted(PACKAGE.glob("*.py"))
+
+
+def tree_of(path):
+    return ast.parse(path.read_text(encoding="utf-8"))
+
+
+def defined(name, kind):
+    tree = tree_of(PACKAGE / (name + ".py"))
+    return {node.name: node for node in tree.body if isinstance(node, kind)}
+
+
+class InterfaceTest(unittest.TestCase):
+    def test_functions_stand_in_their_files(self):
+        for name, wanted in FUNCTIONS.items():
+            found = defined(name, ast.FunctionDef)
+            for function, parameters in wanted.items():
+                with self.subTest(file=name, function=function):
+                    self.assertIn(function, found)
+                    self.assertEqual(ast.unparse(found[function].args), parameters)
+
+    def test_classes_stand_in_their_files(self):
+        for name, wanted in CLASSES.items():
+            found = defined(name, ast.ClassDef)
+            for told, (base, methods) in wanted.items():
+                with self.subTest(file=name, told=told):
+                    self.assertIn(told, found)
+                    bases = [ast.unparse(node) for node in found[told].bases]
+                    self.assertEqual(bases, [base] if base else [])
+                    self.check_methods(found[told], methods)
+
+    def check_methods(self, told, methods):
+        found = {node.name: node for node in told.body if isinstance(node, ast.FunctionDef)}
+        for method, parameters in methods.items():
+            self.assertIn(method, found)
+            self.assertEqual(ast.unparse(found[method].args), parameters)
+
+
+class RulesTest(unittest.TestCase):
+    def test_the_package_holds_only_its_files(self):
+        names = [path.name for path in PACKAGE.iterdir() if path.name != "__pycache__"]
+        self.assertIn("__init__.py", names)
+        for name in names:
+            self.assertRegex(name, re.compile(r"[a-z0-9_]+\.py\Z"))
+
+    def test_sizes_and_characters(self):
+        for path in files():
+            text = path.read_bytes().decode("ascii")
+            lines = text.split("\n")
+            with self.subTest(file=path.name):
+                self.assertTrue(all(char == "\n" or " " <= char <= "~" for char in text))
+                self.assertLessEqual(len(lines), 399)
+                self.assertLessEqual(max(len(line) for line in lines), 120)
+                for node in ast.walk(tree_of(path)):
+                    if isinstance(node, ast.FunctionDef):
+                        self.assertLessEqual(node.end_lineno - node.lineno + 1, 40, node.name)
+
+    def test_imports(self):
+        names = {path.stem for path in files()}
+        for path in files():
+            for node in ast.walk(tree_of(path)):
+                if isinstance(node, ast.ImportFrom):
+                    with self.subTest(file=path.name, line=node.lineno):
+                        self.check_import(node, names)
+
+    def check_import(self, node, names):
+        self.assertEqual(node.level, 0)
+        told = {alias.name for alias in node.names}
+        if node.module in LIBRARY:
+            self.assertLessEqual(told, LIBRARY[node.module])
+            self.assertTrue(all(alias.asname is None for alias in node.names))
+            return
+        self.assertRegex(node.module, re.compile(r"turnshelves\.[a-z0-9_]+\Z"))
+        name = node.module.split(".")[1]
+        self.assertIn(name, names - {"__main__", "__init__"})
+        tree = tree_of(PACKAGE / (name + ".py"))
+        bound = {part.name for part in tree.body if isinstance(part, (ast.FunctionDef, ast.ClassDef))}
+        bound |= {part.targets[0].id for part in tree.body if isinstance(part, ast.Assign)}
+        self.assertLessEqual(told, bound)
+
+    def test_no_two_files_import_from_each_other(self):
+        seen = {}
+        for path in files():
+            nodes = [node for node in ast.walk(tree_of(path)) if isinstance(node, ast.ImportFrom)]
+            seen[path.stem] = {node.module.split(".")[-1] for node in nodes if node.module not in LIBRARY}
+        while seen:
+            ends = [name for name, others in seen.items() if not others & set(seen)]
+            self.assertTrue(ends, f"these import from each other: {sorted(seen)}")
+            for name in ends:
+                del seen[name]
+
+    def test_statements(self):
+        for path in files():
+            tree = tree_of(path)
+            for at, node in enumerate(tree.body):
+                docstring = at == 0 and isinstance(node, ast.Expr) and isinstance(node.value, ast.Constant)
+                self.assertTrue(docstring or isinstance(node, MODULE_LEVEL), (path.name, node.lineno))
+            for node in ast.walk(tree):
+                place = (path.name, getattr(node, "lineno", 0))
+                self.assertNotIsInstance(node, BARRED, place)
+                if isinstance(node, ast.Constant):
+                    self.assertNotIsInstance(node.value, (float, complex), place)
+                    self.assertFalse(isinstance(node.value, str) and "%" in node.value, place)
+                if isinstance(node, (ast.FunctionDef, ast.ClassDef)):
+                    self.check_decorators(node, place)
+
+    def check_decorators(self, node, place):
+        for decorator in node.decorator_list:
+            self.assertRegex(ast.unparse(decorator), r"\A(property|staticmethod|classmethod|\w+\.setter)\Z", place)
+
+    def test_calls_of_builtins(self):
+        builtins = set(dir(__import__("builtins")))
+        errors = {name for name in builtins if name.endswith("Error")}
+        for path in files():
+            for node in ast.walk(tree_of(path)):
+                if isinstance(node, ast.Name) and node.id in builtins - errors:
+                    self.assertIn(node.id, CALLS, (path.name, node.lineno))
+                    self.assertIsInstance(node.ctx, ast.Load, (path.name, node.lineno))
+
+
+if __name__ == "__main__":
+    unittest.main()

@@ -1,0 +1,1 @@
+"""Turnshelves: a store that lays itself out."""
