@@ -13,6 +13,17 @@ PACKAGE = pathlib.Path(__file__).resolve().parent.parent / "turnshelves"
 FUNCTIONS = {
     "values": {"value_key": "value", "row_key": "row", "key_of": "item", "key_order": "key"},
     "states": {"between": "first, second"},
+    "questions": {"check": "state, body", "answer": "state, body", "calls": "state, body", "meets": "call, row"},
+    "statements": {"say": "state, statement", "statement_calls": "state, statement"},
+    "codes": {
+        "write_number": "number", "write_integer": "number", "write_string": "text", "write_value": "value",
+        "write_row": "row", "write_item": "item", "write_change": "change", "write_changes": "changes",
+        "write_image": "commits, state",
+    },
+    "shapes": {
+        "pack": "rows", "bucket": "state, structure, row", "bucket_of_values": "values, buckets",
+        "relation_shape": "state, name", "structure_shape": "state, name", "places": "state", "room_needed": "state",
+    },
 }
 CLASSES = {
     "errors": {
@@ -38,6 +49,21 @@ CLASSES = {
             "same_schema": "self, other",
         }),
     },
+    "codes": {
+        "Reader": (None, {
+            "__init__": "self, data",
+            "read_number": "self",
+            "read_integer": "self",
+            "read_string": "self",
+            "read_value": "self",
+            "read_row": "self",
+            "read_item": "self",
+            "read_change": "self",
+            "read_changes": "self",
+            "read_image": "self",
+            "end": "self",
+        }),
+    },
 }
 
 LIBRARY = {
@@ -53,6 +79,19 @@ CALLS = {
     "len", "range", "enumerate", "zip", "min", "max", "sum", "abs", "sorted", "reversed", "int", "str", "bool",
     "list", "tuple", "dict", "set", "isinstance", "ord", "repr", "any", "all", "divmod", "pow", "map", "iter",
     "next", "super",
+}
+
+# The methods of builtin values that the package may call.
+METHODS = set("""
+append clear copy count endswith extend find get index insert isalnum isalpha isdigit islower isspace isupper items
+join keys ljust lower lstrip partition pop remove replace reverse rfind rjust rpartition rsplit rstrip setdefault
+split splitlines startswith strip update upper values zfill bit_length add discard sort
+""".split())
+
+# Words that stand in no name and no string.
+WORDS = {
+    "register", "mro", "elements", "open", "input", "law", "with_traceback", "add_note", "typing", "enum", "Enum",
+    "Flag", "Generic", "Protocol", "ABC", "namedtuple", "dataclass", "overload", "contextmanager", "abstractmethod",
 }
 
 
@@ -162,6 +201,44 @@ class RulesTest(unittest.TestCase):
                     self.assertFalse(isinstance(node.value, str) and "%" in node.value, place)
                 if isinstance(node, (ast.FunctionDef, ast.ClassDef)):
                     self.check_decorators(node, place)
+
+    def test_methods(self):
+        own = set()
+        for path in files():
+            for node in ast.walk(tree_of(path)):
+                if isinstance(node, ast.ClassDef):
+                    own |= {part.name for part in node.body if isinstance(part, ast.FunctionDef)}
+        for path in files():
+            for node in ast.walk(tree_of(path)):
+                if isinstance(node, ast.Call) and isinstance(node.func, ast.Attribute):
+                    self.assertIn(node.func.attr, METHODS | own, (path.name, node.lineno))
+
+    def test_names_and_strings(self):
+        builtins = set(dir(__import__("builtins")))
+        for path in files():
+            for node in ast.walk(tree_of(path)):
+                place = (path.name, getattr(node, "lineno", 0))
+                names = [getattr(node, word, None) for word in ("id", "attr", "arg", "name")]
+                names = [name for name in names if isinstance(name, str)]
+                self.assertFalse(WORDS & set(names), place)
+                if isinstance(node, (ast.arg, ast.FunctionDef, ast.ClassDef)):
+                    self.assertNotIn(names[0], builtins, place)
+                if isinstance(node, ast.Constant) and isinstance(node.value, str):
+                    self.assertFalse(WORDS & set(re.findall(r"\w+", node.value)), place)
+
+    def test_sets_are_not_iterated_and_imports_are_not_shadowed(self):
+        for path in files():
+            tree = tree_of(path)
+            bound = {alias.name for node in tree.body if isinstance(node, ast.ImportFrom) for alias in node.names}
+            bound |= {node.name for node in tree.body if isinstance(node, ast.ClassDef)}
+            for node in ast.walk(tree):
+                place = (path.name, getattr(node, "lineno", 0))
+                if isinstance(node, (ast.For, ast.comprehension)):
+                    self.assertNotIsInstance(node.iter, (ast.Set, ast.SetComp), place)
+                if isinstance(node, ast.Name) and isinstance(node.ctx, ast.Store):
+                    self.assertNotIn(node.id, bound, place)
+                if isinstance(node, ast.arg):
+                    self.assertNotIn(node.arg, bound, place)
 
     def check_decorators(self, node, place):
         for decorator in node.decorator_list:
