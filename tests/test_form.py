@@ -24,6 +24,17 @@ FUNCTIONS = {
         "pack": "rows", "bucket": "state, structure, row", "bucket_of_values": "values, buckets",
         "relation_shape": "state, name", "structure_shape": "state, name", "places": "state", "room_needed": "state",
     },
+    "costs": {
+        "offered": "state", "read_sectors": "state, layout, call", "all_read": "state, layout, calls",
+        "written": "before, after, layout", "cost": "before, after, layout, calls", "excesses": "before, after, calls",
+        "laying": "state, structure", "stands": "state, layout", "going": "state, first, second",
+        "way": "state, first, second",
+    },
+    "papers": {"judge": "paper"},
+    "blocks": {
+        "write_block": "turn, data", "read_block": "sectors, turn", "head": "turn, area", "read_head": "sector",
+        "region_start": "size", "area_size": "size", "area_start": "size, area", "found": "disk",
+    },
 }
 CLASSES = {
     "errors": {
@@ -62,6 +73,54 @@ CLASSES = {
             "read_changes": "self",
             "read_image": "self",
             "end": "self",
+        }),
+    },
+    "policy": {
+        "Policy": (None, {
+            "__init__": "self, start, stands, ways", "serve": "self, task", "hindsight": "self", "paper": "self",
+        }),
+    },
+    "transactions": {
+        "Words": (None, {
+            "__init__": "self",
+            "own": "self, state",
+            "say": "self, state, statement",
+            "savepoint": "self, name",
+            "rollback_to": "self, state, name",
+            "again": "self, state",
+            "all_calls": "self, state",
+        }),
+    },
+    "disk": {
+        "Disk": (None, {
+            "__init__": "self, sectors",
+            "size": "self",
+            "read": "self, index",
+            "pending": "self",
+            "counts": "self",
+            "write": "self, index, data",
+            "sync": "self",
+            "note_reads": "self, count",
+            "fail_after": "self, operations",
+            "power": "self, kept",
+            "is_on": "self",
+            "losses": "self",
+        }),
+    },
+    "store": {
+        "Store": (None, {"__init__": "self, disk", "fits": "self, changes", "commit": "self, changes"}),
+    },
+    "database": {
+        "Database": (None, {
+            "__init__": "self, disk", "session": "self", "status": "self", "hindsight": "self", "paper": "self",
+        }),
+        "Session": (None, {
+            "run": "self, statement",
+            "begin": "self",
+            "commit": "self",
+            "rollback": "self",
+            "savepoint": "self, name",
+            "rollback_to": "self, name",
         }),
     },
 }
@@ -201,6 +260,37 @@ class RulesTest(unittest.TestCase):
                     self.assertFalse(isinstance(node.value, str) and "%" in node.value, place)
                 if isinstance(node, (ast.FunctionDef, ast.ClassDef)):
                     self.check_decorators(node, place)
+
+    def test_values_at_module_level_are_plain(self):
+        plain = (ast.Constant, ast.Tuple, ast.List, ast.Dict, ast.Name, ast.Load, ast.UnaryOp, ast.USub)
+        for path in files():
+            for node in tree_of(path).body:
+                if isinstance(node, ast.Assign):
+                    self.assertEqual(len(node.targets), 1)
+                    self.assertIsInstance(node.targets[0], ast.Name, (path.name, node.lineno))
+                    for part in ast.walk(node.value):
+                        self.assertIsInstance(part, plain, (path.name, node.lineno))
+
+    def test_attributes_are_assigned_and_are_no_methods(self):
+        assigned, read, methods = {}, {}, set()
+        for path in files():
+            for told in tree_of(path).body:
+                if not isinstance(told, ast.ClassDef):
+                    continue
+                own = {part.name for part in told.body if isinstance(part, ast.FunctionDef)}
+                self.assertEqual(len(own), sum(isinstance(part, ast.FunctionDef) for part in told.body))
+                stored = {
+                    node.attr for node in ast.walk(told) if isinstance(node, ast.Attribute)
+                    and isinstance(node.ctx, ast.Store) and ast.unparse(node.value) == "self"
+                }
+                self.assertEqual(own & stored, set(), (path.name, told.name))
+                methods |= own
+            for node in ast.walk(tree_of(path)):
+                if isinstance(node, ast.Attribute):
+                    side = assigned if isinstance(node.ctx, ast.Store) else read
+                    side[node.attr] = (path.name, node.lineno)
+        for name, place in read.items():
+            self.assertTrue(name in assigned or name in methods | METHODS, (name, place))
 
     def test_methods(self):
         own = set()

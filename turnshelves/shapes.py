@@ -78,25 +78,38 @@ def structure_shape(state, name):
     return sectors
 
 
-def structure_room(state, name):
-    """The number of sectors of the room of a structure."""
-    return state.structures[name][2] * state.structures[name][3]
+def shape_of(state, name):
+    """The shape of a relation or a structure, by its sort and name."""
+    sort, told = name
+    if sort == "relation":
+        return relation_shape(state, told)
+    return structure_shape(state, told)
+
+
+def room_of(state, name):
+    """The number of sectors of the room of a relation or a structure, by its sort and name."""
+    sort, told = name
+    if sort == "relation":
+        return state.relations[told][1]
+    return state.structures[told][2] * state.structures[told][3]
+
+
+def all_names(state):
+    """The list of the sorts and names of what has a place, in the order of the places."""
+    relations = [("relation", name) for name in sorted(state.relations)]
+    return relations + [("structure", name) for name in sorted(state.structures)]
 
 
 def places(state):
     """A dict with the first sector of each relation and structure, by its sort and name."""
     told = {}
     free = 0
-    for name in sorted(state.relations):
-        told[("relation", name)] = free
-        free += state.relations[name][1]
-    for name in sorted(state.structures):
-        told[("structure", name)] = free
-        free += structure_room(state, name)
+    for name in all_names(state):
+        told[name] = free
+        free += room_of(state, name)
     return told
 
 
 def room_needed(state):
     """The number of sectors of all places."""
-    rooms = [state.relations[name][1] for name in state.relations]
-    return sum(rooms) + sum([structure_room(state, name) for name in state.structures])
+    return sum([room_of(state, name) for name in all_names(state)])
